@@ -1,0 +1,1 @@
+"""Whole points, whole: polygons, the steps of one's own, and the whole points they lead to."""

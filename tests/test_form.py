@@ -110,6 +110,36 @@ class Code(unittest.TestCase):
             if isinstance(node, ast.arg):
                 self.assertFalse(hasattr(builtins, node.arg), node.arg)
 
+    def test_locals_are_not_called_like_an_import(self):
+        for path in files():
+            tree = ast.parse(path.read_text(encoding="utf-8"))
+            tops = {name.name for node in tree.body if isinstance(node, ast.ImportFrom) for name in node.names}
+            tops |= {node.name for node in tree.body if isinstance(node, ast.ClassDef)}
+            for node in ast.walk(tree):
+                if isinstance(node, ast.Name) and isinstance(node.ctx, ast.Store):
+                    self.assertNotIn(node.id, tops)
+                if isinstance(node, ast.arg):
+                    self.assertNotIn(node.arg, tops)
+
+    def test_no_name_is_a_method_and_a_value(self):
+        methods, values = set(), set()
+        for path, node in nodes():
+            if isinstance(node, ast.ClassDef):
+                methods |= {part.name for part in node.body if isinstance(part, ast.FunctionDef)}
+            if isinstance(node, ast.Attribute) and isinstance(node.ctx, ast.Store):
+                values.add(node.attr)
+        self.assertEqual(methods & values, set())
+
+    def test_no_two_files_draw_from_one_another(self):
+        drawn = {path.stem: set() for path in files()}
+        for path, node in nodes():
+            if isinstance(node, ast.ImportFrom):
+                drawn[path.stem].add(node.module.split(".")[1])
+        while drawn:
+            free = [name for name in drawn if not drawn[name] & set(drawn)]
+            self.assertNotEqual(free, [])
+            drawn = {name: others for name, others in drawn.items() if name not in free}
+
     def test_methods(self):
         known = own_attributes() | set(OWN_METHODS)
         for path, node in nodes():

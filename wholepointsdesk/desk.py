@@ -1,7 +1,11 @@
 """One polygon and two steps, what was kept of them, and the calls on them."""
 
-from wholepointsdesk.shape import polygon_between, polygon_cut, polygon_moved, reaches_beyond
-from wholepointsdesk.whole import any_beyond, differences, lowest_terms
+from wholepointsdesk.points import column_ends, points_in, points_within
+from wholepointsdesk.rule import b_and_c, said_of, shared
+from wholepointsdesk.shape import corners_between, polygon_between, polygon_cut, polygon_moved, reaches_beyond
+from wholepointsdesk.shape import twice_area
+from wholepointsdesk.steps import led_to, polygon_by_steps
+from wholepointsdesk.whole import any_beyond, crosswise, differences, lowest_terms
 
 OUT_OF_BOUNDS = -1
 WRONG_LISTS = -3
@@ -22,6 +26,9 @@ FARTHEST_CUT = 20
 FINEST_CUT = 1000
 FARTHEST_SHIFT = 20
 FARTHEST_CORNER = 100
+MOST_COUNTED = 60
+MOST_FAR = 1000000
+LONGEST_RULE = 36
 
 
 def both_have(plus, minus, count):
@@ -73,11 +80,12 @@ class Desk:
         numbers = differences(plus, minus)
         if any_beyond(numbers, FARTHEST_STEP):
             return [OUT_OF_BOUNDS]
-        determinant = numbers[0] * numbers[3] - numbers[1] * numbers[2]
+        steps = ((numbers[0], numbers[1]), (numbers[2], numbers[3]))
+        determinant = crosswise(steps[0], steps[1])
         if determinant == 0:
             return [IN_ONE_LINE]
         self.keep()
-        self.steps = ((numbers[0], numbers[1]), (numbers[2], numbers[3]))
+        self.steps = steps
         return [abs(determinant)]
 
     def cut(self, c_plus, c_minus, plus, minus):
@@ -127,4 +135,55 @@ class Desk:
         for x, y in self.polygon.corners:
             told.extend(lowest_terms(x, self.polygon.scale))
             told.extend(lowest_terms(y, self.polygon.scale))
+        return told
+
+    def tell_area(self):
+        """Answers 0, then the polygon's own area as a fraction."""
+        scale = self.polygon.scale
+        return [0] + lowest_terms(twice_area(self.polygon), 2 * scale * scale)
+
+    def by_steps(self):
+        """The polygon told by the steps, in which the points led to are the whole points."""
+        return polygon_by_steps(self.polygon, self.steps)
+
+    def tell_count(self, k):
+        """Answers how many points led to are in the polygon k times as large."""
+        if k > MOST_COUNTED:
+            return [OUT_OF_BOUNDS]
+        return [points_in(self.by_steps(), k)]
+
+    def tell_inside(self, k):
+        """Answers how many points led to are within the polygon k times as large."""
+        if k < 1 or k > MOST_COUNTED:
+            return [OUT_OF_BOUNDS]
+        return [points_within(self.by_steps(), k)]
+
+    def tell_rule(self):
+        """Answers D, then A, and b and c of each rest, as fractions."""
+        polygon = self.by_steps()
+        if polygon.scale > LONGEST_RULE:
+            return [TOO_FINE]
+        told = [polygon.scale] + lowest_terms(twice_area(polygon), shared(polygon))
+        for rest in range(polygon.scale):
+            for number in b_and_c(polygon, rest):
+                told.extend(lowest_terms(number, shared(polygon)))
+        return told
+
+    def tell_far(self, k):
+        """Answers 0, then what the rule says of k and of -k, as fractions."""
+        if k > MOST_FAR:
+            return [OUT_OF_BOUNDS]
+        polygon = self.by_steps()
+        if polygon.scale > LONGEST_RULE:
+            return [TOO_FINE]
+        upward = lowest_terms(said_of(polygon, k), shared(polygon))
+        return [0] + upward + lowest_terms(said_of(polygon, -k), shared(polygon))
+
+    def tell_hull(self):
+        """Answers how many corners the hull of the points led to has, then x and y of each."""
+        ends = column_ends(self.by_steps())
+        corners = corners_between([led_to(self.steps, place) for place in ends])
+        told = [len(corners)]
+        for corner in corners:
+            told.extend(corner)
         return told

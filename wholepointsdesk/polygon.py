@@ -7,9 +7,18 @@ STEPS = 2
 CUT = 3
 SHIFT = 4
 UNDO = 5
+CORNERS = 6
+AREA = 7
+COUNT = 8
+INSIDE = 9
+RULE = 10
+FAR = 11
 
 # Of each call: how many whole numbers it has, then how many rows.
-FORMS = {1: (1, 2), 2: (0, 2), 3: (2, 2), 4: (0, 2), 5: (0, 0), 6: (0, 0)}
+FORMS = {
+    1: (1, 2), 2: (0, 2), 3: (2, 2), 4: (0, 2), 5: (0, 0), 6: (0, 0),
+    7: (0, 0), 8: (1, 0), 9: (1, 0), 10: (0, 0), 11: (1, 0), 12: (0, 0),
+}
 
 
 def read_call(numbers, start):
@@ -26,7 +35,7 @@ def read_call(numbers, start):
 
 
 def ask(desk, call, wholes, rows):
-    """What the desk answers to the call; to the one that's left, corners, at the end."""
+    """What the desk answers to the call."""
     if call == BEGIN:
         return desk.begin(wholes[0], rows[0], rows[1])
     if call == STEPS:
@@ -37,7 +46,24 @@ def ask(desk, call, wholes, rows):
         return desk.shift(rows[0], rows[1])
     if call == UNDO:
         return desk.undo()
-    return desk.tell_corners()
+    return ask_about(desk, call, wholes)
+
+
+def ask_about(desk, call, wholes):
+    """What the desk answers to a call that changes nothing; to the one that's left, hull, at the end."""
+    if call == CORNERS:
+        return desk.tell_corners()
+    if call == AREA:
+        return desk.tell_area()
+    if call == COUNT:
+        return desk.tell_count(wholes[0])
+    if call == INSIDE:
+        return desk.tell_inside(wholes[0])
+    if call == RULE:
+        return desk.tell_rule()
+    if call == FAR:
+        return desk.tell_far(wholes[0])
+    return desk.tell_hull()
 
 
 def answers(calls):

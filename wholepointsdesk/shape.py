@@ -1,6 +1,6 @@
 """Polygons with fractions as their corners' numbers, in whole numbers throughout."""
 
-from wholepointsdesk.whole import any_beyond, common_divisor, common_multiple
+from wholepointsdesk.whole import any_beyond, common_divisor, common_multiple, crosswise
 
 
 # A polygon is never changed once it is made, so that keeping one needs no copy. Its corners are told times scale, the
@@ -13,9 +13,7 @@ class Polygon:
 
 def turn(start, middle, end):
     """Above 0 if the way over middle bends to the left, below 0 if to the right, 0 if it stays in one line."""
-    across = (middle[0] - start[0]) * (end[1] - start[1])
-    upward = (middle[1] - start[1]) * (end[0] - start[0])
-    return across - upward
+    return crosswise((middle[0] - start[0], middle[1] - start[1]), (end[0] - start[0], end[1] - start[1]))
 
 
 def left_bends(places):
@@ -29,8 +27,12 @@ def left_bends(places):
 
 
 def corners_between(places):
-    """The corners of all that lies between the places, in order; fewer than three if all are in one line."""
+    """The corners of all that lies between the places, in order: of places all in one line the two ends, of one place
+    this, of none nothing.
+    """
     ordered = sorted(set(places))
+    if len(ordered) == 1:
+        return ordered
     below = left_bends(ordered)
     above = left_bends(list(reversed(ordered)))
     # Each half ends where the other begins.
@@ -93,3 +95,9 @@ def polygon_moved(polygon, right, up):
 def reaches_beyond(polygon, bound):
     """Whether one of the corners' own numbers is farther from 0 than bound."""
     return any([any_beyond(corner, bound * polygon.scale) for corner in polygon.corners])
+
+
+def twice_area(polygon):
+    """Twice the area between the corners as they are told: 2 scale scale times the polygon's own area."""
+    corners = polygon.corners
+    return sum([crosswise(corners[k - 1], corners[k]) for k in range(len(corners))])
